@@ -51,6 +51,38 @@ def set_leg(x, y, t, dx, dy, k):
     return [8, x, y, t, dx, dy, k]
 
 
+def line(x, y, t, k):
+    return [9, x, y, t, k]
+
+
+def bias(x, y, u, v, t):
+    return [10, x, y, u, v, t]
+
+
+def shift(x, y, t, s):
+    return [11, x, y, t, s]
+
+
+def turned(x, y, t, s, p, q):
+    return [12, x, y, t, s, p, q]
+
+
+def strongest(t):
+    return [13, t]
+
+
+def mean(i, t, s):
+    return [14, i, t, s]
+
+
+def between(x, y, t, dx, dy, velocities):
+    return [15, x, y, t, dx, dy, len(velocities)] + velocities
+
+
+def stations():
+    return [16]
+
+
 def ask(*calls):
     """The answers of the calls, one list each."""
     told = answers([number for call in calls for number in call])
@@ -133,6 +165,47 @@ def second_wind(stations, x, y, t):
         weights.append(weight)
     # Where a station stands all other weights are 0, so this needs no case of its own.
     return tuple(sum(w * h[1][k] for w, h in zip(weights, heard)) / Fraction(sum(weights)) for k in (0, 1))
+
+
+def second_port_end(wind, place, k):
+    """The port end by trying every whole place in a box; None if there is none in it."""
+    e, n = wind
+    far = 3 * k + 30
+    best = None
+    for dx in range(-far, far + 1):
+        for dy in range(-far, far + 1):
+            # One looks to (-e, -n): the place is square to that, and on its left.
+            if dx * e + dy * n == 0 and -e * dy + n * dx > 0 and dx * dx + dy * dy >= k * k:
+                best = min(best or (far * far, 0, 0), (dx * dx + dy * dy, dx, dy))
+    return best and (place[0] + best[1], place[1] + best[2])
+
+
+def second_bias(wind, first, second):
+    """Which place lies further against the wind, and by how much squared, from how far each of them lies."""
+    marks = [Fraction(-dot(wind, place)) for place in (first, second)]
+    ahead = 0 if marks[0] == marks[1] else 1 if marks[0] > marks[1] else 2
+    return ahead, (marks[0] - marks[1]) ** 2 / dot(wind, wind)
+
+
+def second_shift(first, second):
+    """The turn's two codes by the first wind's own frame, and the sine's square by the cosine's."""
+    ahead = dot(first, second) / Fraction(dot(first, first))
+    aside = dot((-first[1], first[0]), second) / Fraction(dot(first, first))
+    codes = [0 if part == 0 else 1 if part > 0 else 2 for part in (aside, ahead)]
+    return codes, 1 - Fraction(dot(first, second)) ** 2 / (dot(first, first) * dot(second, second))
+
+
+def second_turned(first, second, p, q):
+    """Whether the angle is greater, by its cosine, which is less the greater the angle is."""
+    if dot(first, second) <= 0:
+        return True
+    return dot(first, second) ** 2 * (p * p + q * q) < q * q * dot(first, first) * dot(second, second)
+
+
+def second_mean(seen, t, s):
+    """The mean by single seconds, since the wind only bends at whole times."""
+    ends = [second_station_wind(seen, moment) for moment in range(t, s + 1)]
+    return [sum((a[k] + b[k]) / 2 for a, b in zip(ends, ends[1:])) / (s - t) for k in (0, 1)]
 
 
 def velocities_in(table, wind):

@@ -30,13 +30,26 @@ def least_time(table, along, left):
     return best
 
 
-# The lesser of two times, where None is never.
-def lesser(first, second):
+# Whether the first of two times is less, where None is never.
+def is_sooner(first, second):
     if first is None:
-        return second
-    if second is None or is_less(first, second):
+        return False
+    return second is None or is_less(first, second)
+
+
+def lesser(first, second):
+    if is_sooner(first, second):
         return first
     return second
+
+
+# 1 if the first of two times is less, 2 if it is more, 0 if it is as much.
+def compare_times(first, second):
+    if is_sooner(first, second):
+        return 1
+    if is_sooner(second, first):
+        return 2
+    return 0
 
 
 def time_by_one(velocity, along, left):

@@ -1,12 +1,14 @@
 """The calls on one list: each is taken apart, carried out and answered in numbers."""
 
-from windcourses.air import speaking, wind_at
-from windcourses.limits import FAST, MOST_BYTES, MOST_SECONDS, MOST_VELOCITIES
+from windcourses.air import heading_of, is_calm, mean_wind, speaking, station_wind, strongest_at, wind_at
+from windcourses.limits import FARTHEST_END, FAST, LONGEST_LINE, MOST_BYTES, MOST_SECONDS, MOST_VELOCITIES, STEEPEST
 from windcourses.limits import all_within, are_places, are_strengths, are_times
 from windcourses.ratio import tell_ratio, whole
 from windcourses.reports import read_weather, write_weather
-from windcourses.sailing import course_moments, least_repeats, way_time
+from windcourses.sailing import compare_times, course_moments, least_repeats, way_time
 from windcourses.stations import Sight, add_sight, is_full, saw_at
+from windcourses.turning import across, along, is_turned_beyond, lead_against, lead_square, port_end
+from windcourses.turning import sign_code, sine_square
 
 NO_STATION = -2
 NO_ROOM = -4
@@ -16,6 +18,7 @@ NEVER = -7
 TOO_LONG = -8
 WRONG_LIST = -9
 OUT_OF_RANGE = -10
+TOO_FAR = -11
 WRONG_TEXT = -1000
 
 
@@ -53,8 +56,12 @@ def printed(sea, numbers, row):
     return write_weather(sea.stations)
 
 
+def is_station(sea, number):
+    return 1 <= number <= len(sea.stations)
+
+
 def observe(sea, numbers, row):
-    if numbers[0] < 1 or numbers[0] > len(sea.stations):
+    if not is_station(sea, numbers[0]):
         return [NO_STATION]
     if not are_times(numbers[1:2]) or not are_strengths(numbers[2:]):
         return [OUT_OF_RANGE]
@@ -149,10 +156,124 @@ def set_leg(sea, numbers, row):
     return [repeats]
 
 
+# The refusal that is due when one goes by the directions of these winds, or 0.
+def refusal_by(winds):
+    for wind in winds:
+        if wind is None:
+            return NO_WIND
+    for wind in winds:
+        if is_calm(wind):
+            return NEVER
+    return 0
+
+
+def lay_line(sea, numbers, row):
+    if not are_places(numbers[:2]) or not are_times(numbers[2:3]) or not all_within(numbers[3:], 1, LONGEST_LINE):
+        return [OUT_OF_RANGE]
+    wind = wind_there(sea, numbers)
+    refusal = refusal_by([wind])
+    if refusal != 0:
+        return [refusal]
+    end = port_end(heading_of(wind), (numbers[0], numbers[1]), numbers[3])
+    if not all_within(end, -FARTHEST_END, FARTHEST_END):
+        return [TOO_FAR]
+    return [1, end[0], end[1]]
+
+
+def bias(sea, numbers, row):
+    if not are_places(numbers[:4]) or not are_times(numbers[4:]):
+        return [OUT_OF_RANGE]
+    wind = wind_there(sea, [numbers[0], numbers[1], numbers[4]])
+    refusal = refusal_by([wind])
+    if refusal != 0:
+        return [refusal]
+    heading = heading_of(wind)
+    lead = lead_against(heading, (numbers[0], numbers[1]), (numbers[2], numbers[3]))
+    return [sign_code(lead)] + tell_ratio(lead_square(heading, lead))
+
+
+# The winds at the place x, y at the times t and s, with which the numbers begin.
+def both_winds(sea, numbers):
+    return [wind_there(sea, numbers), wind_there(sea, [numbers[0], numbers[1], numbers[3]])]
+
+
+def shift(sea, numbers, row):
+    if not are_places(numbers[:2]) or not are_times(numbers[2:]):
+        return [OUT_OF_RANGE]
+    winds = both_winds(sea, numbers)
+    refusal = refusal_by(winds)
+    if refusal != 0:
+        return [refusal]
+    first = heading_of(winds[0])
+    second = heading_of(winds[1])
+    turns = [sign_code(across(first, second)), sign_code(along(first, second))]
+    return turns + tell_ratio(sine_square(first, second))
+
+
+# Whether p and q are in their ranges.
+def is_tangent(numbers):
+    return all_within(numbers[:1], 0, STEEPEST) and all_within(numbers[1:], 1, STEEPEST)
+
+
+def turned(sea, numbers, row):
+    if not are_places(numbers[:2]) or not are_times(numbers[2:4]) or not is_tangent(numbers[4:]):
+        return [OUT_OF_RANGE]
+    winds = both_winds(sea, numbers)
+    refusal = refusal_by(winds)
+    if refusal != 0:
+        return [refusal]
+    if is_turned_beyond(heading_of(winds[0]), heading_of(winds[1]), numbers[4], numbers[5]):
+        return [1]
+    return [0]
+
+
+def strongest(sea, numbers, row):
+    if not are_times(numbers):
+        return [OUT_OF_RANGE]
+    best = strongest_at(sea.stations, whole(numbers[0]))
+    if best is None:
+        return [NO_WIND]
+    return [best[0]] + tell_ratio(best[1])
+
+
+def mean(sea, numbers, row):
+    if not is_station(sea, numbers[0]):
+        return [NO_STATION]
+    if not are_times(numbers[1:]) or numbers[2] <= numbers[1]:
+        return [OUT_OF_RANGE]
+    station = sea.stations[numbers[0] - 1]
+    for moment in numbers[1:]:
+        if station_wind(station, whole(moment)) is None:
+            return [NO_WIND]
+    wind = mean_wind(station, numbers[1], numbers[2])
+    return tell_ratio(wind.east) + tell_ratio(wind.north)
+
+
+def between(sea, numbers, row):
+    if not is_way_in_range(numbers):
+        return [OUT_OF_RANGE]
+    if not is_table(row):
+        return [WRONG_LIST]
+    wind = wind_there(sea, numbers)
+    if wind is None:
+        return [NO_WIND]
+    by_ours = way_time(sea.table, wind, numbers[3], numbers[4])
+    by_this = way_time(pairs_of(row), wind, numbers[3], numbers[4])
+    return [compare_times(by_ours, by_this)]
+
+
+def list_stations(sea, numbers, row):
+    answer = [len(sea.stations)]
+    for station in sea.stations:
+        answer.extend([station.x, station.y, len(station.seen)])
+    return answer
+
+
 # By the calls' numbers: what carries it out, how many whole numbers it has, and which have a row.
-HANDLERS = (load, printed, observe, tell_wind, speak, lay_table, tell_time, course, set_leg)
-SIZES = (0, 0, 4, 3, 1, 0, 5, 1, 6)
-WITH_ROW = (0, 5, 7)
+HANDLERS = (load, printed, observe, tell_wind, speak, lay_table, tell_time, course, set_leg,
+            lay_line, bias, shift, turned, strongest, mean, between, list_stations)
+SIZES = (0, 0, 4, 3, 1, 0, 5, 1, 6, 4, 5, 4, 6, 1, 3, 5, 0)
+WITH_ROW = (0, 5, 7, 15)
 
 
 def take_call(calls, place):
